@@ -744,9 +744,9 @@ func TestLeastPointsAndMargins(t *testing.T) {
 	}
 }
 
-// matchOf tells who wins a match of sets whose winners are told.
-func matchOf(winners string, wins int) (string, bool) {
-	if len(winners) > 5 || wins < 1 || wins > 3 || strings.Contains(winners, "-") || strings.Contains(winners, "x") {
+// matchOf tells who wins a match of at most so many sets, or races, whose winners are told.
+func matchOf(winners string, wins, most, mostWins int) (string, bool) {
+	if len(winners) > most || wins < 1 || wins > mostWins || strings.Contains(winners, "-") || strings.Contains(winners, "x") {
 		return "", false
 	}
 	for i := range len(winners) + 1 {
@@ -774,7 +774,7 @@ func TestMatchSets(t *testing.T) {
 		}
 		kept := slices.Clone(list)
 		for _, wins := range []int{0, 1, 2, 3, 4} {
-			want, fine := matchOf(winners, wins)
+			want, fine := matchOf(winners, wins, 5, 3)
 			if got, ok := impl.MatchSets(list, wins); got != want || ok != fine {
 				t.Errorf("MatchSets(%s, %d) = %q %v, want %q %v", winners, wins, got, ok, want, fine)
 			}

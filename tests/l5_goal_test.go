@@ -394,10 +394,15 @@ func (l lastGoals) neverBehind(a, b, goals int) *big.Int {
 // checkCount holds a count up to MaxGames, and that a greater one fails.
 func checkCount(t *testing.T, what string, got int, ok bool, want *big.Int) {
 	t.Helper()
-	if fine := want.Cmp(big.NewInt(impl.MaxGames)) <= 0; !fine {
-		want = new(big.Int)
+	checkLimited(t, what, got, ok, want, impl.MaxGames)
+}
+
+// checkLimited holds a count up to the most that may be, and that a greater one fails.
+func checkLimited(t *testing.T, what string, got int, ok bool, want *big.Int, most int64) {
+	t.Helper()
+	if want.Cmp(big.NewInt(most)) > 0 {
 		if ok || got != 0 {
-			t.Errorf("%s = %d %v, but they are more than MaxGames", what, got, ok)
+			t.Errorf("%s = %d %v, but they are more than %d", what, got, ok, most)
 		}
 	} else if !ok || int64(got) != want.Int64() {
 		t.Errorf("%s = %d %v, want %v", what, got, ok, want)
