@@ -933,7 +933,18 @@ func TestLeagueTexts(t *testing.T) {
 	}
 }
 
-// TestSpoiledLeagueTexts takes letters out of texts, puts others in, and exchanges them.
+// spoilText takes letters out of a text, puts others in, and exchanges them.
+func spoilText(text, letters string, look func(text string)) {
+	for i := range len(text) {
+		look(text[:i] + text[i+1:])
+		for _, letter := range letters {
+			look(text[:i] + string(letter) + text[i:])
+			look(text[:i] + string(letter) + text[i+1:])
+			look(text + string(letter))
+		}
+	}
+}
+
 func TestSpoiledLeagueTexts(t *testing.T) {
 	r := rand.New(rand.NewSource(7))
 	texts := []string{leagueExample, "2w2|", "8w3|", "8w2|7-6=20:20", "4w3|0-1=10:0,1-0=0:10,3-2=2:2"}
@@ -942,14 +953,7 @@ func TestSpoiledLeagueTexts(t *testing.T) {
 	}
 	for _, text := range texts {
 		checkLeagueText(t, text)
-		for i := range len(text) {
-			checkLeagueText(t, text[:i]+text[i+1:])
-			for _, letter := range "0123789w|-=:,+ \n\x00x" {
-				checkLeagueText(t, text[:i]+string(letter)+text[i:])
-				checkLeagueText(t, text[:i]+string(letter)+text[i+1:])
-				checkLeagueText(t, text+string(letter))
-			}
-		}
+		spoilText(text, "0123789w|-=:,+ \n\x00x", func(text string) { checkLeagueText(t, text) })
 	}
 }
 
